@@ -1,0 +1,1 @@
+"""Harmonicdues: one thing a beat for shares that nobody foresees."""
