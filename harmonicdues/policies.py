@@ -1,7 +1,7 @@
 """Policies: names, expressions, statements and blocks, as they must be built."""
 
 from harmonicdues.basics import is_within
-from harmonicdues.errors import BadBlock, NoBottom
+from harmonicdues.errors import BadBlock, NoBottom, NoPolicy
 from harmonicdues.shares import is_bottom
 
 LETTERS = "abcdefghijklmnopqrstuvwxyz"
@@ -142,3 +142,9 @@ class Policy:
 
     def __eq__(self, other):
         return isinstance(other, Policy) and self.bottom == other.bottom and self.block == other.block
+
+
+def check_policy(policy):
+    """Raise NoPolicy unless this is a policy."""
+    if not isinstance(policy, Policy):
+        raise NoPolicy()

@@ -1,7 +1,7 @@
 """People, shares of things, and rows of shares."""
 
-from harmonicdues.basics import is_within, sum_of
-from harmonicdues.errors import NoPeople, NoRow, NoThings
+from harmonicdues.basics import are_numbers, is_within, sum_of
+from harmonicdues.errors import NoPeople, NoPerson, NoRow, NoShares, NoThings
 
 MOST_PEOPLE = 12
 MOST_BOTTOM = 360
@@ -26,11 +26,10 @@ def check_things(n, m):
         raise NoThings()
 
 
-def are_tops(n, bottom, thing):
-    """Whether a thing is a tuple of n numbers, each at most bottom."""
-    if not isinstance(thing, tuple) or len(thing) != n:
-        return False
-    return all([is_within(top, 0, bottom) for top in thing])
+def check_person(n, person):
+    """Raise NoPerson unless this is the number of one of n people."""
+    if not is_within(person, 0, n - 1):
+        raise NoPerson()
 
 
 def fits_shares(n, m, thing):
@@ -38,13 +37,19 @@ def fits_shares(n, m, thing):
     if not isinstance(thing, tuple) or len(thing) != 2:
         return False
     bottom, tops = thing
-    return is_bottom(bottom) and are_tops(n, bottom, tops) and sum(tops) == m * bottom
+    return is_bottom(bottom) and are_numbers(tops, n, bottom) and sum(tops) == m * bottom
 
 
 def is_shares(n, m, thing):
     """Whether a thing is shares of m things for n people."""
     check_things(n, m)
     return fits_shares(n, m, thing)
+
+
+def check_shares(n, shares):
+    """Raise NoShares unless these are shares of one thing for n people."""
+    if not fits_shares(n, 1, shares):
+        raise NoShares()
 
 
 def place_of_no_row(n, m, thing):

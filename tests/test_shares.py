@@ -9,31 +9,17 @@ from random import Random
 from harmonicdues import shares as module
 from harmonicdues.errors import NoPeople, NoRow, NoThings
 from harmonicdues.shares import got, got_by, is_row, is_shares
-from tests.things import all_kinds, deep_things, no_integers, other_things, snapshot, told_by, tuples
+from tests.things import (
+    all_kinds, deep_things, no_integers, other_things, pairs_of, snapshot, some_row, some_shares, told_by, tuples,
+)
 
 ALL_OF_THEM = (is_shares, is_row, got, got_by)
 HALVES = (2, (1, 1))
 
 
-def some_shares(n, m, bottom, chance):
-    """Right shares: each of m times bottom parts goes to one who has not all that is let."""
-    tops = [0] * n
-    for _ in range(m * bottom):
-        tops[chance.choice([i for i in range(n) if tops[i] < bottom])] += 1
-    return (bottom, tuple(tops))
-
-
-def some_row(n, m, beats, chance):
-    return tuple(some_shares(n, m, chance.randint(1, 12), chance) for _ in range(beats))
-
-
 def first_ones(n, m, bottom):
     """Shares by which the first m people get a whole thing each."""
     return (bottom, (bottom,) * m + (0,) * (n - m))
-
-
-def pairs_of(fractions):
-    return tuple((part.numerator, part.denominator) for part in fractions)
 
 
 def reckoned(n, row):

@@ -1,7 +1,9 @@
 """Things that tests pass where a function judges a thing, and what a call does with them."""
 
 from harmonicdues import errors
+from harmonicdues.dealing import Dealer
 from harmonicdues.policies import Policy
+from harmonicdues.tellers import Teller
 
 FIELDS = {
     "NoPeople": None, "NoThings": None, "NoRow": "at", "NoShares": None, "NoPerson": None,
@@ -57,6 +59,7 @@ def other_things():
         (x for x in ()), iter([]), zip(), enumerate([]), reversed([]), map(len, []),
         ValueError("a"), KeyError(1), errors.NoPeople(), errors.NoRow(3), errors.BadBlock((0,)),
         errors.DuesError, errors.NoPeople, Policy, Policy(2, ()), Policy(6, (("weight", ONE),)),
+        Dealer, Dealer(2), Teller, Teller(2, Policy(2, ())),
     ]
 
 
@@ -97,3 +100,112 @@ def snapshot(thing):
     if type(thing) is dict:
         return {key: snapshot(thing[key]) for key in thing}
     return thing
+
+
+def some_shares(n, m, bottom, chance):
+    """Right shares: each of m times bottom parts goes to one who has not all that is let."""
+    tops = [0] * n
+    for _ in range(m * bottom):
+        tops[chance.choice([i for i in range(n) if tops[i] < bottom])] += 1
+    return (bottom, tuple(tops))
+
+
+def some_row(n, m, beats, chance):
+    return tuple(some_shares(n, m, chance.randint(1, 12), chance) for _ in range(beats))
+
+
+def pair_of(fraction):
+    return (fraction.numerator, fraction.denominator)
+
+
+def pairs_of(fractions):
+    return tuple(pair_of(fraction) for fraction in fractions)
+
+
+def no_shares(n):
+    """Things of all kinds that are no shares of one thing for n people."""
+    return all_kinds() + [
+        (2, (2,) + (0,) * n), (n + 1, (1,) * (n + 1)), (n - 1, (1,) * (n - 1)), (1, (1,) * (n + 1)),
+        (361, (361,) + (0,) * (n - 1)), (0, (0,) * n), (2, (1,) + (0,) * (n - 1)), (2, (3, -1) + (0,) * (n - 2)),
+        (2, (2, 2) + (0,) * (n - 2)), (2, (2, 1) + (0,) * (n - 2)), [2, (2,) + (0,) * (n - 1)],
+        (2, [2] + [0] * (n - 1)), (True, (1,) + (0,) * (n - 1)), (1, (True,) + (0,) * (n - 1)), (2,), (),
+        (2, (2,) + (0,) * (n - 1), 0), (1, (1,) + (False,) * (n - 1)),
+    ]
+
+
+def no_persons(n):
+    """Things of all kinds that are no numbers of one of n people."""
+    return no_integers() + [-1, -2, n, n + 1, 10 ** 59, -(10 ** 59)]
+
+
+def no_rows():
+    """Things that are no row of one thing for two people, each with the number that NoRow tells."""
+    halves = (2, (1, 1))
+    rows = [(thing, -1) for thing in other_things() + [0, 1, [halves], (halves,) * 401, (None,) * 401]]
+    rows += [(halves, 0), ((halves, (2, (1, 2))), 1), ((None, halves), 0), ((halves,) * 399 + ([],), 399)]
+    rows += [((halves, halves, (2, (2, 2))), 2), (((3, (1, 1, 1)),), 0), ((halves, [2, (1, 1)], None), 1)]
+    return rows + [(thing, 0) for thing in tuples()]
+
+
+def no_people():
+    return [0, 13, -1, 14, 10 ** 59, -(10 ** 59)] + no_integers()
+
+
+def some_name(chance):
+    return chance.choice(("a", "b", "zz", "abcdefgh", "num", "fact", "lets"))
+
+
+def some_number(chance):
+    most = 10 ** 18
+    if chance.random() < 0.1:
+        return chance.choice((most, -most, chance.randint(-most, most)))
+    return chance.randint(-3, 12)
+
+
+def some_simple(chance):
+    head = chance.choice(("num", "num", "fact", "fact", "let", "keep", "own"))
+    if head == "num":
+        return (head, some_number(chance))
+    if head == "fact":
+        return (head, chance.choice(("beat", "person", "need", "things", "people")))
+    return (head, some_name(chance))
+
+
+SIGNS = ("+", "-", "*", "/", "mod", "min", "max", "<", "=", "and", "or")
+
+
+def some_expression(chance, depth=6, parts=30):
+    """An expression of this depth and of so many parts at most."""
+    if depth == 1 or parts < 3 or chance.random() < 0.3:
+        return some_simple(chance)
+    if chance.random() < 0.15:
+        return ("not", some_expression(chance, depth - 1, parts - 1))
+    half = (parts - 1) // 2
+    sign = chance.choice(SIGNS)
+    return (sign, some_expression(chance, depth - 1, half), some_expression(chance, depth - 1, half))
+
+
+def some_block(chance, depth=4, most=14):
+    """A block of at most so many statements, each if of which has blocks of fewer."""
+    block = []
+    while most > 0 and chance.random() < 0.8:
+        most -= 1
+        expression = some_expression(chance, chance.randint(1, 6))
+        kind = chance.choice(("let", "keep", "own", "weight", "weight", "weight", "cap", "if", "if"))
+        if kind in ("let", "keep", "own"):
+            block.append((kind, some_name(chance), expression))
+        elif kind != "if":
+            block.append((kind, expression))
+        elif depth > 1:
+            first = some_block(chance, depth - 1, most // 3)
+            block.append(("if", expression, first, some_block(chance, depth - 1, most // 3)))
+            most -= 2 * (most // 3)
+    return tuple(block)
+
+
+def some_policy(chance):
+    bottom = chance.choice((1, 2, 6, 7, 60, 360, chance.randint(1, 360)))
+    weight = ("weight", ("+", ("fact", chance.choice(("person", "things", "beat"))), ("num", chance.randint(0, 9))))
+    cap = ("cap", ("-", ("num", chance.randint(0, bottom)), ("fact", chance.choice(("person", "things", "beat")))))
+    ahead = chance.choice(((), (weight,), (weight,), (cap, weight)))
+    return Policy(bottom, ahead + some_block(chance))
