@@ -1,7 +1,7 @@
 """Policies as texts."""
 
 from harmonicdues.errors import BadText
-from harmonicdues.policies import FACTS, SIGNS, STORES, Policy, check_policy, has_right_parts, is_expression
+from harmonicdues.policies import FACTS, SIGNS, STORES, Policy, check_policy, has_right_parts
 
 FIGURES = "0123456789"
 # As many as 10 ** 18 has.
@@ -95,7 +95,7 @@ def close_bracket(stack):
 
 
 def read_expression(text):
-    """The expression that a text tells; None for none."""
+    """What a text tells as an expression: something that is none for a text of none."""
     # A stack, and not a descent, since there may be thousands of brackets.
     stack = []
     for word in text.replace("(", "( ").replace(")", " )").split(" "):
@@ -103,10 +103,7 @@ def read_expression(text):
             stack.append(read_word(word))
         elif not close_bracket(stack):
             return None
-    # Whatever is none makes what it stands in none, so it is enough to look at the whole.
-    if len(stack) != 1 or not is_expression(stack[0]):
-        return None
-    return stack[0]
+    return stack[0] if len(stack) == 1 else None
 
 
 def read_statement(line):
@@ -121,6 +118,7 @@ def read_statement(line):
         statement = (head, read_expression(rest.removesuffix(" do")), (), ())
     else:
         return None
+    # Whatever is none makes what it stands in none, so it is enough to look at the whole.
     return statement if has_right_parts(statement, 1) else None
 
 

@@ -172,11 +172,11 @@ class Teller:
 
     def turned(self, policy):
         """Another teller with this policy, in the same state, which goes on apart."""
-        check_policy(policy)
         other = Teller(self._n, policy)
         other._beat = self._beat
-        other._keeps = dict(self._keeps)
-        other._owns = [dict(owns) for owns in self._owns]
+        # Each run puts new dicts in the place of these, so both tellers may hold the same ones.
+        other._keeps = self._keeps
+        other._owns = list(self._owns)
         return other
 
     def kept(self):
