@@ -1,6 +1,8 @@
-"""The helper of the package: kinds of integers, lots, and fractions."""
+"""The helper of the package: kinds of integers, lots, fractions, and numbers as texts."""
 
 from math import gcd
+
+FIGURES = "0123456789"
 
 
 def is_integer(thing):
@@ -63,3 +65,13 @@ def harmonic(low, high):
     for bottom in range(low, high + 1):
         total = sum_of(total, (1, bottom))
     return total
+
+
+def read_number(word, most_figures):
+    """The number of so many figures at most, without needless zeros, that a word tells; None for none."""
+    # Counted first, since Python refuses to read thousands of figures.
+    if not 1 <= len(word) <= most_figures or not all([figure in FIGURES for figure in word]):
+        return None
+    if word[0] == "0" and word != "0":
+        return None
+    return int(word)

@@ -1,9 +1,9 @@
 """Policies as texts."""
 
+from harmonicdues.basics import read_number
 from harmonicdues.errors import BadText
 from harmonicdues.policies import FACTS, SIGNS, STORES, Policy, check_policy, has_right_parts
 
-FIGURES = "0123456789"
 # As many as 10 ** 18 has.
 MOST_FIGURES = 19
 MOST_FIGURES_OF_BOTTOM = 3
@@ -58,15 +58,13 @@ def policy_text(policy):
     return "\n".join(lines) + "\n"
 
 
-def read_integer(word, most_figures):
-    """The integer of so many figures at most that a word tells; None for none."""
-    figures = word.removeprefix("-")
-    # Counted first, since Python refuses to read thousands of figures.
-    if not 1 <= len(figures) <= most_figures or not all([figure in FIGURES for figure in figures]):
-        return None
-    if figures[0] == "0" and word != "0":
-        return None
-    return int(word)
+def read_integer(word):
+    """The integer of an expression that a word tells; None for none."""
+    if not word.startswith("-"):
+        return read_number(word, MOST_FIGURES)
+    number = read_number(word.removeprefix("-"), MOST_FIGURES)
+    # A sign stands ahead of numbers below 0 alone.
+    return None if number in (None, 0) else -number
 
 
 def read_word(word):
@@ -79,7 +77,7 @@ def read_word(word):
         return ("keep", word.removeprefix("all:"))
     if word.startswith("own:"):
         return ("own", word.removeprefix("own:"))
-    number = read_integer(word, MOST_FIGURES)
+    number = read_integer(word)
     return ("let", word) if number is None else ("num", number)
 
 
@@ -166,7 +164,7 @@ def read_bottom(line):
     """The bottom that a line tells; None for none."""
     if not line.startswith("bottom "):
         return None
-    return read_integer(line.removeprefix("bottom "), MOST_FIGURES_OF_BOTTOM)
+    return read_number(line.removeprefix("bottom "), MOST_FIGURES_OF_BOTTOM)
 
 
 def read_policy(text):

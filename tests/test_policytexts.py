@@ -271,13 +271,21 @@ class Bottoms(TextTest):
             "bottom (1 + 1)", "bottom need", "bottom: 6", "bottom=6", "bottom = 6", "Bottom 6", "BOTTOM 6",
             "bottoms 6", "top 6", "6", "weight 1", "end", "else", "if 1 do", "let a 1", "# 6", "bottom 1e2",
             "bottom 0x6", "bottom 1_0", "bottom 6;", "bottom 6,", "row 2 1", "bottom 1" + "0" * 30,
-            "bottom " + "9" * 5000, "bottom -" + "9" * 5000, "bottom -1000",
+            "bottom " + "9" * 5000, "bottom -" + "9" * 5000, "bottom -1000", "bottom -12", "bottom -5",
         ):
             self.wrong(line + "\n", 1)
             self.wrong(line + "\nweight 1\n", 1)
             self.wrong(line + "\nweight\n", 1)
             self.wrong(line + "\nweight 1", 1)
             self.wrong(line, 1)
+
+    def test_a_sign_is_no_figure(self):
+        for figures in ("1", "5", "6", "12", "99", "100", "360", "361", "999", "0", "00", "-1", ""):
+            for rest in ("", "weight need\n", "\nweight things", "weight\n", "weight 1", "if 1 do\n", "if 1 do\n" * 5):
+                self.wrong(f"bottom -{figures}\n{rest}", 1)
+                self.wrong(f"bottom +{figures}\n{rest}", 1)
+            self.wrong(f"bottom {figures}-\n", 1)
+        self.reads("bottom 360\nweight -360\n", 360, (("weight", ("num", -360)),))
 
     def test_order_of_the_errors(self):
         deep = "if 1 do\n" * 4 + "end\n" * 4
