@@ -59,6 +59,16 @@ def is_less(one, other):
     return one[0] * other[1] < other[0] * one[1]
 
 
+def rounded_down(fraction):
+    """The greatest integer that is not above a fraction."""
+    return fraction[0] // fraction[1]
+
+
+def rounded_up(fraction):
+    """The least integer that is not below a fraction."""
+    return -(-fraction[0] // fraction[1])
+
+
 def harmonic(low, high):
     """The fraction 1/low + .. + 1/high, 0 if low is above high."""
     total = (0, 1)

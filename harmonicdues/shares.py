@@ -82,15 +82,20 @@ def grown_by(sums, shares):
     return tuple([sum_of(had, (top, bottom)) for had, top in zip(sums, tops)])
 
 
-def got_by(n, m, row):
-    """The list, beat by beat, of the tuples of what each one has got in all behind it."""
-    check_row(n, m, row)
+def sums_behind(n, row):
+    """The list, beat by beat, of the tuples of what each one has got in all behind it, of a checked row."""
     sums = ((0, 1),) * n
     behind = []
     for shares in row:
         sums = grown_by(sums, shares)
         behind.append(sums)
     return behind
+
+
+def got_by(n, m, row):
+    """The list, beat by beat, of the tuples of what each one has got in all behind it."""
+    check_row(n, m, row)
+    return sums_behind(n, row)
 
 
 def got(n, m, row):

@@ -209,3 +209,41 @@ def some_policy(chance):
     cap = ("cap", ("-", ("num", chance.randint(0, bottom)), ("fact", chance.choice(("person", "things", "beat")))))
     ahead = chance.choice(((), (weight,), (weight,), (cap, weight)))
     return Policy(bottom, ahead + some_block(chance))
+
+
+def otherwise(thing):
+    """Things that are as this one but in one place, each made anew."""
+    if type(thing) in (tuple, list):
+        kind = type(thing)
+        yield {tuple: list, list: tuple}[kind](thing)
+        yield thing + kind((None,))
+        yield thing[:1] + thing
+        for at in range(len(thing)):
+            yield thing[:at] + thing[at + 1:]
+            for item in otherwise(thing[at]):
+                yield thing[:at] + kind((item,)) + thing[at + 1:]
+    elif type(thing) is dict:
+        yield list(thing.items())
+        for key in thing:
+            yield {other: thing[other] for other in thing if other != key}
+            for item in otherwise(thing[key]):
+                yield {**thing, key: item}
+    elif type(thing) is int:
+        yield from (thing + 1, thing - 1, -thing - 3, None, str(thing), (thing,), [thing], {thing: thing})
+        if thing in (0, 1):
+            yield bool(thing)
+    elif type(thing) is str:
+        yield from (thing + "s", thing[:-1], thing.upper(), " " + thing, None, (thing,), [thing], thing.encode())
+    elif thing is None:
+        yield from (0, False, (), "", "None", 400)
+
+
+def is_same(one, other):
+    """Whether two things are equal and of the same kinds throughout."""
+    if type(one) is not type(other):
+        return False
+    if type(one) in (tuple, list):
+        return len(one) == len(other) and all(map(is_same, one, other))
+    if type(one) is dict:
+        return one.keys() == other.keys() and all(is_same(one[key], other[key]) for key in one)
+    return one == other
