@@ -177,7 +177,9 @@ class IsPlan(unittest.TestCase):
     def test_all_lots_of_small_rows(self):
         chance = Random(1)
         kept = 0
-        for n, m, beats in ((1, 1, 3), (2, 1, 6), (2, 2, 3), (3, 1, 4), (3, 2, 4), (3, 3, 2), (4, 2, 3), (4, 3, 3), (5, 2, 2)):
+        for n, m, beats in (
+            (1, 1, 3), (2, 1, 6), (2, 2, 3), (3, 1, 4), (3, 2, 4), (3, 3, 2), (4, 2, 3), (4, 3, 3), (5, 2, 2),
+        ):
             for row in rows(n, m, beats, chance):
                 for lots in itertools.product(lots_of(n, m), repeat=beats):
                     told = reckoned_astray(n, row, lots)

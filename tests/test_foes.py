@@ -213,7 +213,9 @@ class NoFoe(unittest.TestCase):
         self.assertEqual(seen, [0, 1, 2])
 
     def test_errors_of_its_own_go_on(self):
-        for error in (KeyError("a"), ZeroDivisionError(), ValueError("b"), NoPerson(), NoRow(3), BadWay(7), StopIteration()):
+        for error in (
+            KeyError("a"), ZeroDivisionError(), ValueError("b"), NoPerson(), NoRow(3), BadWay(7), StopIteration(),
+        ):
             for at in (0, 3):
                 def wrong(view):
                     if view[2] == at:
@@ -298,7 +300,8 @@ class IsAgainst(unittest.TestCase):
             for n in (1, 2, 3):
                 self.assertIs(is_against(n, 3, thing), False)
             for at in range(4):
-                self.assertIs(is_against(3, 9, OF_THREE[:at] + (thing,) + OF_THREE[at + 1:]), at == 2 and is_same(thing, 1))
+                told = is_against(3, 9, OF_THREE[:at] + (thing,) + OF_THREE[at + 1:])
+                self.assertIs(told, at == 2 and is_same(thing, 1))
             if type(thing) is not int:
                 self.assertIs(is_against(3, 9, (OF_THREE[0], [0, thing], 1, (5, 6))), False)
 

@@ -293,11 +293,15 @@ class NoGames(unittest.TestCase):
         self.assertEqual(many, 99)
 
     def test_just_at_the_limit(self):
-        for n, bottom, beats in ((2, 4, 6), (2, 6, 5), (2, 10, 4), (3, 12, 2), (4, 7, 2), (4, 12, 1), (4, 2, 4), (1, 12, 6)):
+        for n, bottom, beats in (
+            (2, 4, 6), (2, 6, 5), (2, 10, 4), (3, 12, 2), (4, 7, 2), (4, 12, 1), (4, 2, 4), (1, 12, 6),
+        ):
             debts, shares = noughts(n), (bottom, (0,) * (n - 1) + (bottom,))
             self.assertLessEqual(rows_of(n, bottom, beats), 20000)
             self.refused(None, n, bottom, beats, debts, shares)
-        for n, bottom, beats in ((2, 5, 6), (2, 7, 5), (2, 11, 4), (3, 12, 3), (4, 8, 2), (4, 12, 2), (4, 2, 5), (2, 12, 6)):
+        for n, bottom, beats in (
+            (2, 5, 6), (2, 7, 5), (2, 11, 4), (3, 12, 3), (4, 8, 2), (4, 12, 2), (4, 2, 5), (2, 12, 6),
+        ):
             debts, shares = noughts(n), (bottom, (0,) * (n - 1) + (bottom,))
             self.assertGreater(rows_of(n, bottom, beats), 20000)
             self.refused((TooMany, 20000), n, bottom, beats, debts, shares)

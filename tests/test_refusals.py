@@ -416,7 +416,9 @@ class IsBar(unittest.TestCase):
             self.assertIs(is_bar(2, row, refusals, ("things", lot)), told)
 
     def test_other_words(self):
-        for word in ("thing", "beat", "", "Things", "BEATS", "lots", b"things", b"beats", 0, None, True, ("beats",), ["beats"]):
+        for word in (
+            "thing", "beat", "", "Things", "BEATS", "lots", b"things", b"beats", 0, None, True, ("beats",), ["beats"],
+        ):
             for lot in ((0, 1), ((0, 1),), ()):
                 self.assertIs(is_bar(2, TWO, REFUSED, (word, lot)), False)
         for thing in (
