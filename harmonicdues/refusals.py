@@ -82,6 +82,13 @@ def bar_of_beats(task, beats_of):
     return None if reached is None else ("beats", tuple(sorted([beat for beat, _ in reached])))
 
 
+def bar_of(task, refusals):
+    """A bar for a task with refusals, or None."""
+    beats_of = task.beats_let(refusals)
+    of_beats = bar_of_beats(task, beats_of)
+    return bar_of_things(task, beats_of) if of_beats is None else of_beats
+
+
 def plan_with(n, row, refusals):
     """A plan that keeps a row, in which nobody gets a thing where refused, or None."""
     check_refusals(n, row, refusals)
@@ -99,10 +106,7 @@ def is_plan_with(n, row, refusals, thing):
 def bar(n, row, refusals):
     """A bar, or None."""
     check_refusals(n, row, refusals)
-    task = Task(n, row)
-    beats_of = task.beats_let(refusals)
-    of_things = bar_of_things(task, beats_of)
-    return bar_of_beats(task, beats_of) if of_things is None else of_things
+    return bar_of(Task(n, row), refusals)
 
 
 def are_needed(task, thing):
@@ -147,6 +151,22 @@ def is_bar(n, row, refusals, thing):
     return thing[0] == "beats" and bars_beats(task, beats_of, thing[1])
 
 
+def hurdle_of(task, refusals, barring):
+    """The list of the beats of which one has to be left aside so that a bar is none."""
+    word, lot = barring
+    if word == "beats":
+        return [beat for beat in lot if len(refusals[beat]) > 0]
+    return [
+        beat for beat, refused in enumerate(refusals)
+        if any([person in refused and beat in task.windows[(person, at)] for person, at in lot])
+    ]
+
+
+def takes_all(lot, hurdles):
+    """Whether a lot has one beat at least of each hurdle."""
+    return all([any([beat in lot for beat in hurdle]) for hurdle in hurdles])
+
+
 def least_refused(n, row, refusals):
     """The pair of the least number of beats whose refusals stand in the way of a plan, and the first such lot."""
     check_refusals(n, row, refusals)
@@ -154,8 +174,12 @@ def least_refused(n, row, refusals):
     if len(beats) > MOST_BEATS_REFUSED:
         raise TooMany(MOST_BEATS_REFUSED)
     task = Task(n, row)
+    hurdles = []
     for many in range(len(beats) + 1):
         for lot in combinations(beats, many):
-            left = [() if beat in lot else refused for beat, refused in enumerate(refusals)]
-            if plan_of(task, left) is not None:
-                return (many, lot)
+            if takes_all(lot, hurdles):
+                left = [() if beat in lot else refused for beat, refused in enumerate(refusals)]
+                barring = bar_of(task, left)
+                if barring is None:
+                    return (many, lot)
+                hurdles.append(hurdle_of(task, left, barring))

@@ -40,6 +40,9 @@ def rows(n, beats, chance):
     yield some_row(n, 1, beats, chance)
     yield (some_shares(n, 1, chance.choice((2, 3, 5)), chance),) * beats
     yield ((n, (1,) * n),) * beats
+    # One has to get a thing, all others need not, but may.
+    first = (n + 1, (2,) + (1,) * (n - 1))
+    yield ((first,) * ((n + 2) // 2) + ((n, (1,) * n),) * beats)[:beats]
 
 
 def keeping(n, row):
@@ -150,7 +153,7 @@ class Refused(unittest.TestCase):
 class SmallRows(unittest.TestCase):
     """All of them against a going through of all plans, and of all bars."""
 
-    SIZES = ((1, 1), (1, 3), (2, 1), (2, 3), (2, 5), (2, 7), (3, 2), (3, 4), (3, 5), (4, 3), (4, 4))
+    SIZES = ((1, 1), (1, 3), (2, 1), (2, 3), (2, 5), (2, 7), (3, 2), (3, 4), (3, 5), (4, 3), (4, 4), (5, 3))
 
     def cases(self, seed):
         chance = Random(seed)
@@ -266,6 +269,18 @@ class Examples(unittest.TestCase):
         self.assertEqual(bar(3, row, ((0, 1, 2),)), ("beats", (0,)))
         for thing in (("things", ((0, 1),)), ("things", ((0, 1), (1, 1))), ("things", ())):
             self.assertIs(is_bar(3, row, ((0, 1, 2),), thing), False)
+
+    def test_a_bar_of_several_things_and_none_of_beats(self):
+        # Persons 0 and 1 have to get a thing and can in the last beat alone; 2 and 3 fill the beats ahead.
+        row, refusals = ((10, (4, 4, 1, 1)),) * 3, ((0, 1), (0, 1), ())
+        told = bar(4, row, refusals)
+        self.assertTrue(reckoned_bar(4, row, refusals, told))
+        self.assertTrue(is_same(told, ("things", ((0, 1), (1, 1)))))
+        self.assertIsNone(plan_with(4, row, refusals))
+        self.assertEqual(least_refused(4, row, refusals), (1, (0,)))
+        for many in range(4):
+            for lot in itertools.combinations(range(3), many):
+                self.assertIs(is_bar(4, row, refusals, ("beats", lot)), False)
 
     def test_things_give_way_to_one_another(self):
         # Person 0 can get its thing in the last of four beats alone, person 1 then in the one ahead, and so on.
